@@ -1,0 +1,1 @@
+"""Leasewatch: keys held for a time, and watchers told of each change."""
