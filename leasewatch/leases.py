@@ -33,12 +33,12 @@ class Leases:
 
     def renew(self, now, lease):
         """Let a lease last from now on for as many ticks as it was given for."""
-        self._refuse_unknown(lease)
+        self.refuse_unknown(lease)
         self._ends[lease] = now + self._ticks[lease]
 
     def drop(self, lease):
         """End a lease."""
-        self._refuse_unknown(lease)
+        self.refuse_unknown(lease)
         del self._ticks[lease]
         del self._ends[lease]
 
@@ -46,6 +46,7 @@ class Leases:
         """Return (end, lease) of each lease that ends at a tick or ahead of it, in the order of their ends."""
         return sorted([(end, lease) for lease, end in self._ends.items() if end <= until])
 
-    def _refuse_unknown(self, lease):
+    def refuse_unknown(self, lease):
+        """Refuse a lease that doesn't stand; any other one is let pass."""
         if lease not in self._ends:
             raise NoLease("the lease was never given, or has ended")

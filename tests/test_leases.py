@@ -166,6 +166,15 @@ class Unknown(LeasesCase):
         self.refused_both(1)
         self.assertEqual(self.standing(), [(4, 2)])
 
+    def test_refusing_the_unknown_by_itself(self):
+        self.leases.grant(0, 4)
+        self.leases.grant(0, 4)
+        self.leases.drop(2)
+        for lease in [0, -1, 2, 3, 10 ** 12]:
+            self.refused(NoLease, self.leases.refuse_unknown, lease)
+        self.assertIsNone(self.leases.refuse_unknown(1))
+        self.assertEqual(self.standing(), [(4, 1)])
+
     def test_a_refusal_takes_no_number_and_leaves_the_ticks(self):
         self.leases.grant(0, 4)
         for lease in [0, -1, 2, 10 ** 12]:

@@ -8,14 +8,58 @@ import unittest
 
 PACKAGE = os.path.join(os.path.dirname(os.path.dirname(os.path.abspath(__file__))), "leasewatch")
 
-# The interface: file, class, and the parameters of each of its methods.
+# The interface: file, class, and the parameters of each of its methods, with
+# their defaults.
 METHODS = {
     ("leases", "Leases"): {
-        "grant": ["self", "now", "ticks"],
-        "renew": ["self", "now", "lease"],
-        "drop": ["self", "lease"],
-        "due": ["self", "until"],
+        "grant": "(self, now, ticks)",
+        "renew": "(self, now, lease)",
+        "drop": "(self, lease)",
+        "due": "(self, until)",
     },
+    ("log", "Log"): {
+        "note": "(self, tick, word, key, value)",
+        "last": "(self)",
+        "first": "(self)",
+        "wanted": "(self, prefix, behind, most)",
+        "forget": "(self, upto)",
+    },
+    ("room", "Room"): {
+        "grant": "(self, ticks)",
+        "renew": "(self, lease)",
+        "drop": "(self, lease)",
+        "wait": "(self, ticks)",
+        "put": "(self, key, value, lease=0)",
+        "cut": "(self, key, lease=0)",
+        "value": "(self, key)",
+        "holder": "(self, key)",
+        "pairs": "(self, prefix)",
+        "last": "(self)",
+        "first": "(self)",
+        "watch": "(self, prefix, start)",
+        "pull": "(self, watcher, most)",
+        "confirm": "(self, watcher)",
+        "broken": "(self, watcher)",
+        "leave": "(self, watcher)",
+        "trim": "(self)",
+    },
+    ("ears", "Ear"): {
+        "hear": "(self, changes)",
+        "heard": "(self)",
+        "state": "(self)",
+    },
+    ("ears", "Line"): {
+        "turn": "(self, most, luck)",
+    },
+}
+# The arguments by which each class is called, and those of the function.
+CALLED = {
+    ("leases", "Leases"): "()",
+    ("log", "Log"): "()",
+    ("room", "Room"): "()",
+    ("ears", "Ear"): "(start=1, pairs=None)",
+    ("ears", "Line"): "(room, prefix, start, pairs=None)",
+    ("ears", "line_now"): "(room, prefix)",
 }
 # Modules that only reckon; none of them reaches a clock, chance or files.
 USABLE = ["__future__", "collections", "heapq", "itertools", "math"]
@@ -30,24 +74,29 @@ def sources():
                 yield name, held.read()
 
 
+def found(stem, name):
+    return getattr(importlib.import_module("leasewatch." + stem), name)
+
+
 class Interface(unittest.TestCase):
-    def test_each_class_is_defined_in_its_file(self):
-        for stem, name in METHODS:
+    def test_each_name_is_defined_in_its_file(self):
+        for stem, name in CALLED:
             with self.subTest(name=name):
-                module = importlib.import_module("leasewatch." + stem)
-                self.assertEqual(getattr(module, name).__module__, module.__name__)
+                self.assertEqual(found(stem, name).__module__, "leasewatch." + stem)
+                self.assertEqual(found(stem, name).__name__, name)
 
     def test_each_method_stands_in_its_class_with_its_arguments(self):
         for (stem, name), methods in METHODS.items():
-            held = vars(getattr(importlib.import_module("leasewatch." + stem), name))
+            held = vars(found(stem, name))
             for method, parameters in methods.items():
                 with self.subTest(name=name, method=method):
                     self.assertIn(method, held)
-                    self.assertEqual(list(inspect.signature(held[method]).parameters), parameters)
+                    self.assertEqual(str(inspect.signature(held[method])), parameters)
 
-    def test_classes_without_arguments_are_called_without_any(self):
-        leases = importlib.import_module("leasewatch.leases")
-        self.assertEqual(len(inspect.signature(leases.Leases).parameters), 0)
+    def test_each_name_is_called_with_its_arguments(self):
+        for (stem, name), parameters in CALLED.items():
+            with self.subTest(name=name):
+                self.assertEqual(str(inspect.signature(found(stem, name))), parameters)
 
 
 class Sources(unittest.TestCase):
