@@ -184,6 +184,13 @@ class Turning(LineCase):
             self.assertEqual(self.heard(line), [])
             self.assertEqual(room.trim(), 0)
 
+    def test_a_luck_beyond_raises_no_error_and_loses_nothing(self):
+        for luck in [-1, 4, 5]:
+            room = filled(3)
+            line = Line(room, "", 1)
+            line.turn(2, luck)
+            self.all_is_there(line, room, "", 1)
+
     def test_pairs_and_then_the_changes(self):
         room = Room()
         room.put("a", "1")
